@@ -1,0 +1,1 @@
+"""Signs chosen and placed by a font's rules."""
